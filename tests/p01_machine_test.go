@@ -102,24 +102,7 @@ func stepping(t *testing.T) []impl.System {
 // Each list is told as nil, and as an empty one behind which memory lies.
 func TestMachineNilIsEmpty(t *testing.T) {
 	for _, base := range []impl.System{system(t, "0:", "set 1 0 5.1"), system(t, allOfZero, "out 1 0 5.1"), systemOf(tables(t, "1:1111 - 1:1311 - | 2 | 0"))} {
-		for name, turn := range map[string]func(s *impl.System, empty bool){
-			"words":    func(s *impl.System, empty bool) { s.Memory.Words = listOr(s.Memory.Words, empty) },
-			"out":      func(s *impl.System, empty bool) { s.Out = listOr(s.Out, empty) },
-			"gates":    func(s *impl.System, empty bool) { s.Gates = listOr(s.Gates, empty) },
-			"lines":    func(s *impl.System, empty bool) { s.Cache.Lines = listOr(s.Cache.Lines, empty) },
-			"contexts": func(s *impl.System, empty bool) { s.Contexts = listOr(s.Contexts, empty) },
-			"regs":     func(s *impl.System, empty bool) { s.Contexts[0].Regs = listOr(s.Contexts[0].Regs, empty) },
-			"tags":     func(s *impl.System, empty bool) { s.Tables.Tags = listOr(s.Tables.Tags, empty) },
-			"domains":  func(s *impl.System, empty bool) { s.Tables.Domains = listOr(s.Tables.Domains, empty) },
-			"slots":    func(s *impl.System, empty bool) { s.Tables.Registry.Slots = listOr(s.Tables.Registry.Slots, empty) },
-			"levels": func(s *impl.System, empty bool) {
-				for place, slot := range s.Tables.Registry.Slots {
-					if slot.Count == 0 {
-						s.Tables.Registry.Slots[place].Label.Levels = listOr(slot.Label.Levels, empty)
-					}
-				}
-			},
-		} {
+		for name, turn := range emptyLists() {
 			none := turned(base, func(s *impl.System) { turn(s, false) })
 			empty := turned(base, func(s *impl.System) { turn(s, true) })
 			if a, b := machineAnswers(none), machineAnswers(empty); a != b {
@@ -128,6 +111,28 @@ func TestMachineNilIsEmpty(t *testing.T) {
 		}
 	}
 	wantSameContexts(t, "nil and empty", impl.Context{Pc: 1}, impl.Context{Regs: make([]int64, 0, 8), Pc: 1}, true)
+}
+
+// emptyLists turn one of a system's lists each into none, as nil or as an empty one.
+func emptyLists() map[string]func(s *impl.System, empty bool) {
+	return map[string]func(s *impl.System, empty bool){
+		"words":    func(s *impl.System, empty bool) { s.Memory.Words = listOr(s.Memory.Words, empty) },
+		"out":      func(s *impl.System, empty bool) { s.Out = listOr(s.Out, empty) },
+		"gates":    func(s *impl.System, empty bool) { s.Gates = listOr(s.Gates, empty) },
+		"lines":    func(s *impl.System, empty bool) { s.Cache.Lines = listOr(s.Cache.Lines, empty) },
+		"contexts": func(s *impl.System, empty bool) { s.Contexts = listOr(s.Contexts, empty) },
+		"regs":     func(s *impl.System, empty bool) { s.Contexts[0].Regs = listOr(s.Contexts[0].Regs, empty) },
+		"tags":     func(s *impl.System, empty bool) { s.Tables.Tags = listOr(s.Tables.Tags, empty) },
+		"domains":  func(s *impl.System, empty bool) { s.Tables.Domains = listOr(s.Tables.Domains, empty) },
+		"slots":    func(s *impl.System, empty bool) { s.Tables.Registry.Slots = listOr(s.Tables.Registry.Slots, empty) },
+		"levels": func(s *impl.System, empty bool) {
+			for place, slot := range s.Tables.Registry.Slots {
+				if slot.Count == 0 {
+					s.Tables.Registry.Slots[place].Label.Levels = listOr(slot.Label.Levels, empty)
+				}
+			}
+		},
+	}
 }
 
 // listOr is an empty list in the memory of what there was, or nil.
