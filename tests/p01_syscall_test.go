@@ -8,7 +8,6 @@ import (
 	"math"
 	"math/rand"
 	"slices"
-	"strings"
 	"testing"
 
 	"loop.example/g00530/impl"
@@ -181,36 +180,16 @@ func TestAskNilIsEmpty(t *testing.T) {
 	}
 }
 
-// Nothing that comes in is changed, be what lies behind the ends of its lists as it may.
 func TestAskArgumentsStay(t *testing.T) {
-	for _, given := range hearingsOfAndNot(t) {
-		h := given.roomy()
-		was := wholeTold(h)
-		h.answers()
-		if now := wholeTold(h); now != was {
-			t.Fatalf("%s became %s", was, now)
-		}
-	}
+	wantArgumentsStay(t, hearingsOfAndNot(t))
 }
 
-// What lies behind the end of a list is no part of it: the answers are those of a list that ends there.
 func TestAskAnswersHangOnNoCapacity(t *testing.T) {
-	for _, given := range hearingsOfAndNot(t) {
-		if a, b := told(given.roomy().answers()), told(given.answers()); a != b {
-			t.Errorf("%v: with memory behind it %s, else %s", given, a, b)
-		}
-	}
+	wantNoCapacityAsked(t, hearingsOfAndNot(t))
 }
 
-// An answer shares no memory with what came in, with another answer, or with itself.
 func TestAskAnswersAreNewMemory(t *testing.T) {
-	for _, given := range hearings(t) {
-		h := given.roomy()
-		first, second := h.answers(), h.answers()
-		for n, answer := range first {
-			wantApart(t, fmt.Sprintf("answer %d of %v", n, h), answer, h, second[n], first[(n+1)%len(first)])
-		}
-	}
+	wantNewMemory(t, hearings(t))
 }
 
 // scrubReply turns all memory of an answer.
@@ -221,24 +200,8 @@ func scrubReply(answer any) {
 	}
 }
 
-// An answer stays as it is when what came in is turned afterwards, and the other way round.
 func TestAskAnswersStay(t *testing.T) {
-	for _, given := range hearings(t) {
-		h := given.roomy()
-		was := wholeTold(h)
-		for _, answer := range h.answers() {
-			scrubReply(answer)
-		}
-		if wholeTold(h) != was {
-			t.Fatalf("by what was done with the answers %s became %s", was, wholeTold(h))
-		}
-		answers := h.answers()
-		answersWere := told(answers)
-		h.scrub()
-		if told(answers) != answersWere {
-			t.Fatalf("by what was done with what came in the answers, %s, became %v", answersWere, answers)
-		}
-	}
+	wantAnswersStay(t, hearings(t), scrubReply)
 }
 
 // What is asked of a kernel that was answered does not turn another one that was answered from it.
@@ -334,19 +297,5 @@ func TestAskFunctionsAnswerAlways(t *testing.T) {
 }
 
 func TestAskAnswersHangOnArgumentsAlone(t *testing.T) {
-	some := hearings(t)[:4]
-	answers := func() string {
-		all := []string{}
-		for _, h := range some {
-			all = append(all, told(h.answers()))
-		}
-		return strings.Join(all, " ")
-	}
-	was := answers()
-	for _, other := range hearingsOfAndNot(t) {
-		other.answers()
-		if got := answers(); got != was {
-			t.Fatalf("behind calls with %v the answers are %s, and were %s", other, got, was)
-		}
-	}
+	wantArgumentsAlone(t, hearings(t)[:4], hearingsOfAndNot(t))
 }
